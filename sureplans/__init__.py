@@ -1,0 +1,1 @@
+"""Sureplans: plans made without seeing."""

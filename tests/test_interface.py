@@ -1,0 +1,48 @@
+"""Tests of the interface: each name is defined in its own file, with the arguments that are listed."""
+
+import ast
+import unittest
+from pathlib import Path
+
+FOLDER = Path(__file__).resolve().parent.parent / "sureplans"
+
+FUNCTIONS = {
+    "houses": {
+        "house_of": ["facts", "deeds", "looks", "firsts", "wish"],
+        "holds_in": ["house", "condition", "world"],
+        "worlds_where": ["house", "condition"],
+    },
+    "doing": {
+        "worlds_behind": ["house", "deed", "world"],
+        "crowd_behind": ["house", "deed", "crowd"],
+        "doable_in": ["house", "crowd"],
+    },
+}
+CLASSES = {
+    "errors": ["PlanError", "NoHouse", "NoDeed", "NoWorld", "NoNeed", "NoPaper", "TooMany", "NoLook",
+               "NoPlan", "NoText", "NoForm", "NoneYet"],
+}
+
+
+def rows_of(name):
+    return ast.parse((FOLDER / f"{name}.py").read_text()).body
+
+
+class TestInterface(unittest.TestCase):
+
+    def test_functions(self):
+        for name, listed in FUNCTIONS.items():
+            defined = {row.name: [each.arg for each in row.args.args]
+                       for row in rows_of(name) if isinstance(row, ast.FunctionDef)}
+            for function, arguments in listed.items():
+                with self.subTest(name, function=function):
+                    self.assertEqual(defined.get(function), arguments)
+
+    def test_classes(self):
+        for name, listed in CLASSES.items():
+            defined = [row.name for row in rows_of(name) if isinstance(row, ast.ClassDef)]
+            self.assertEqual(sorted(defined), sorted(listed))
+
+
+if __name__ == "__main__":
+    unittest.main()
