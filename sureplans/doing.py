@@ -1,7 +1,8 @@
 """Deeds done: the worlds and the crowds behind them, and which can be done."""
 
+from sureplans.crowds import Step, crowd_of, number_of
 from sureplans.errors import NoDeed, NoNeed, NoWorld
-from sureplans.houses import DEEDS, are_worlds, fact_bit, holds_in, holds_in_each
+from sureplans.houses import DEEDS, are_worlds, holds_in_each
 
 
 def worlds_behind(house, deed, world):
@@ -12,17 +13,27 @@ def worlds_behind(house, deed, world):
 
 def crowd_behind(house, deed, crowd):
     """The crowd of all worlds behind a deed that is done in each world of a crowd."""
-    _, need, ways = deed_called(house, deed)
+    step = Step(house, deed_called(house, deed))
     refuse_no_crowd(house, crowd)
-    if not holds_in_each(house, need, crowd):
+    here = number_of(crowd)
+    if not step.can(here):
         raise NoNeed(f"{deed} cannot be done there")
-    return tuple(sorted({world_by(house, way, world) for world in crowd for way in ways}))
+    return crowd_of(step.behind(here))
 
 
 def doable_in(house, crowd):
     """The names of the deeds that can be done in a crowd, in the house's order."""
     refuse_no_crowd(house, crowd)
     return [name for name, need, ways in house[DEEDS] if holds_in_each(house, need, crowd)]
+
+
+def steps_of_row(house, row):
+    """The steps of a row, one after another; NoDeed where a deed of it is none."""
+    steps = {}
+    for name in row:
+        if name not in steps:
+            steps[name] = Step(house, deed_called(house, name))
+    return [steps[name] for name in row]
 
 
 def deed_called(house, name):
@@ -38,21 +49,3 @@ def refuse_no_crowd(house, crowd):
     if not are_worlds(house, crowd):
         # The numbers are not shown: Python refuses to write out very long ones.
         raise NoWorld("not one or more worlds of this house, rising")
-
-
-def world_by(house, way, world):
-    """The world behind one way of a deed that is done in a world."""
-    behind = world
-    for when, fact, truth in way:
-        # Each when is asked of the world ahead: the changes are made at once.
-        if holds_in(house, when, world):
-            behind = with_fact(house, fact, truth, behind)
-    return behind
-
-
-def with_fact(house, fact, truth, world):
-    """The world that is like this one, but with the fact so, or not so."""
-    bit = fact_bit(house, fact)
-    if truth:
-        return world | bit
-    return (world | bit) - bit

@@ -136,3 +136,141 @@ def random_crowd(chance, facts):
     """A crowd of one world or more."""
     all_worlds = range(1 << len(facts))
     return tuple(sorted(chance.sample(all_worlds, chance.randint(1, len(all_worlds)))))
+
+
+def joined(kind, conditions):
+    """All the conditions as one, by "both" or "either", with as little depth as can be."""
+    if len(conditions) == 1:
+        return conditions[0]
+    middle = len(conditions) // 2
+    return (kind, joined(kind, conditions[:middle]), joined(kind, conditions[middle:]))
+
+
+def only_in(facts, worlds):
+    """A condition that holds in these worlds alone."""
+    each = [joined("both", [fact(name) if so else ("not", fact(name))
+                            for name, so in facts_so(facts, world).items()]) for world in worlds]
+    return joined("either", each) if each else NEVER
+
+
+def mapped_deed(facts, name, behind):
+    """A deed that can be done in the worlds that the dict has, with the worlds listed there behind it."""
+    ways = []
+    for way in range(max(len(worlds) for worlds in behind.values())):
+        changes = []
+        for world, worlds in behind.items():
+            now, then = facts_so(facts, world), facts_so(facts, worlds[min(way, len(worlds) - 1)])
+            when = only_in(facts, [world])
+            changes += [(when, each, then[each]) for each in facts if now[each] != then[each]]
+        ways.append(changes)
+    return (name, only_in(facts, list(behind)), ways)
+
+
+def mapped_parts(many, maps, firsts, well):
+    """The five of a house of so many facts whose deeds are told by dicts, and the worlds where its wish holds."""
+    facts = list(LETTERS[:many])
+    deeds = [mapped_deed(facts, name, behind) for name, behind in maps]
+    return (facts, deeds, [], list(firsts), only_in(facts, well))
+
+
+def maps_of(parts):
+    """The deeds of the five as dicts of the worlds behind each world, and the worlds where the wish holds."""
+    facts, deeds, _, _, wish = parts
+    worlds = range(1 << len(facts))
+    maps = [(name, {world: sorted({behind_by_facts(facts, way, world) for way in ways})
+                    for world in worlds if holds_by_python(facts, need, world)})
+            for name, need, ways in deeds]
+    return maps, {world for world in worlds if holds_by_python(facts, wish, world)}
+
+
+def crowd_by_map(behind, crowd):
+    """The crowd behind a deed told by a dict, or None where it can't be done in the crowd."""
+    if not all(world in behind for world in crowd):
+        return None
+    return tuple(sorted({there for world in crowd for there in behind[world]}))
+
+
+def goes_by_maps(maps, well, crowd, row):
+    """What [12] tells, from deeds told by dicts."""
+    crowds = [crowd]
+    for place, name in enumerate(row):
+        behind = dict(maps)[name]
+        bars = [world for world in crowds[-1] if world not in behind]
+        if bars:
+            return ("stuck", place, min(bars))
+        crowds.append(crowd_by_map(behind, crowds[-1]))
+    bars = [world for world in crowds[-1] if world not in well]
+    return ("ends", min(bars)) if bars else ("well", crowds)
+
+
+def crowds_by_maps(maps, first):
+    """All crowds that can be come to, each with the first of the shortest rows to it by the deeds' places."""
+    rows = {first: []}
+    level = [first]
+    while level:
+        longer = sorted((rows[crowd] + [place], crowd_by_map(behind, crowd))
+                        for crowd in level for place, (_, behind) in enumerate(maps)
+                        if crowd_by_map(behind, crowd) is not None)
+        level = []
+        for row, crowd in longer:
+            if crowd not in rows:
+                rows[crowd] = row
+                level.append(crowd)
+    return {crowd: [maps[place][0] for place in row] for crowd, row in rows.items()}
+
+
+def let_by_maps(maps, well, firsts, paper):
+    """Whether a paper of crowds is let by [18], from deeds told by dicts."""
+    sets = [set(crowd) for crowd in paper]
+    if not any(crowd <= set(firsts) for crowd in sets) or any(crowd <= well for crowd in sets):
+        return False
+    for crowd in paper:
+        for _, behind in maps:
+            there = crowd_by_map(behind, crowd)
+            if there is not None and not any(each <= set(there) for each in sets):
+                return False
+    return True
+
+
+def two_counters(many, others):
+    """Deeds by which two worlds count apart, to many - 1 and to others - 1 (its worlds from 128 on), and stay there.
+
+    From (0, 128) just many * others crowds are come to: (i, 128 + j), i + j deeds off.
+    """
+    ones = {at: [min(at + 1, many - 1)] for at in range(many)}
+    twos = {128 + at: [128 + min(at + 1, others - 1)] for at in range(others)}
+    stay = {world: [world] for world in [*ones, *twos]}
+    return [("one", {**stay, **ones}), ("two", {**stay, **twos})]
+
+
+def clock(many, others):
+    """A deed by which two worlds go round in many and in others (from 128 on), while 256 stays as it is.
+
+    Where these have no divisor, just many * others crowds stand in one long row from (0, 128) on.
+    """
+    turned = {at: [(at + 1) - (many if at + 1 == many else 0)] for at in range(many)}
+    turned.update({128 + at: [128 + (at + 1) - (others if at + 1 == others else 0)] for at in range(others)})
+    return [("tick", {**turned, 256: [256]})]
+
+
+def ruled_maps(number):
+    """Two deeds over four worlds, firsts, and the worlds of the wish, by the figures of a number."""
+    figures = []
+    for _ in range(10):
+        number, figure = divmod(number, 7)
+        figures.append(figure)
+    # What a figure says of a world: the deed can't be done, it leads to one world, or to either of two.
+    told = [lambda world: None, lambda world: [0], lambda world: [1], lambda world: [2], lambda world: [3],
+            lambda world: sorted({world, (world + 1) % 4}), lambda world: sorted({3 - world, (world + 2) % 4})]
+    maps = []
+    for name, places in (("go", range(0, 4)), ("act", range(4, 8))):
+        behind = {world: told[figures[place]](world) for world, place in enumerate(places)}
+        maps.append((name, {world: there for world, there in behind.items() if there is not None}))
+    firsts = [[0], [0, 1], [1, 2], [0, 3], [0, 1, 2], [1, 2, 3], [0, 1, 2, 3]][figures[8]]
+    well = [{0}, {3}, {0, 2}, {2, 3}, {1, 3}, {0, 1, 3}, {1, 2}][figures[9]]
+    return [each for each in maps if each[1]], firsts, well
+
+
+def ruled_samples(many):
+    """So many of these, by a fixed rule, far apart from one another."""
+    return [ruled_maps(place * 104729 * 7 + place) for place in range(1, many + 1)]

@@ -17,6 +17,25 @@ FUNCTIONS = {
         "crowd_behind": ["house", "deed", "crowd"],
         "doable_in": ["house", "crowd"],
     },
+    "rows": {
+        "row_goes": ["house", "crowd", "row"],
+        "may_run": ["house", "world", "row"],
+        "known_in": ["house", "crowd"],
+    },
+    "sure": {
+        "sure_row": ["house"],
+        "how_many_rows": ["house"],
+        "least_deeds": ["house", "crowds"],
+    },
+    "never": {
+        "never_shows": ["house", "paper"],
+        "less_paper": ["house", "paper"],
+        "is_hopeless": ["house", "paper", "crowd"],
+    },
+    "apart": {
+        "parting_row": ["house", "one", "other"],
+        "good_worlds": ["house", "row"],
+    },
 }
 CLASSES = {
     "errors": ["PlanError", "NoHouse", "NoDeed", "NoWorld", "NoNeed", "NoPaper", "TooMany", "NoLook",

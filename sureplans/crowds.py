@@ -1,0 +1,181 @@
+"""Crowds as whole numbers, what deeds do to them, and the search among them.
+
+Here a crowd is a number whose bit w tells that the world w is in it, and 0 is nothing. Whether one crowd lies within
+another, or was found before, is then a matter of a few sums, and thousands of crowds are searched soon.
+"""
+
+from collections import deque
+
+from sureplans.errors import TooMany
+from sureplans.houses import DEEDS, FIRSTS, WISH, fact_bit, worlds_in_all
+
+# As many crowds, or pairs of them, are found at most in one search.
+MOST_FOUND = 2000
+
+# The worlds are taken so many at a time where a deed is done.
+PIECE = 8
+WHOLE_PIECE = 255
+
+
+def number_of(worlds):
+    """The crowd of these worlds as a number."""
+    number = 0
+    for world in worlds:
+        number |= 1 << world
+    return number
+
+
+def crowd_of(number):
+    """The crowd as a tuple of its worlds, rising."""
+    worlds = []
+    while number > 0:
+        world = least_world(number)
+        worlds.append(world)
+        number -= 1 << world
+    return tuple(worlds)
+
+
+def least_world(number):
+    """The least world of a crowd."""
+    return (number & -number).bit_length() - 1
+
+
+def within(one, other):
+    """Whether all worlds of the one crowd are among the other's."""
+    return (one & other) == one
+
+
+def outside(one, other):
+    """The worlds of the one crowd that are not among the other's."""
+    return one - (one & other)
+
+
+def where(house, condition):
+    """All worlds in which the condition holds."""
+    kind = condition[0]
+    if kind == "yes":
+        return everywhere(house)
+    if kind == "fact":
+        return where_so(house, condition[1])
+    if kind == "not":
+        return everywhere(house) - where(house, condition[1])
+    if kind == "both":
+        return where(house, condition[1]) & where(house, condition[2])
+    return where(house, condition[1]) | where(house, condition[2])
+
+
+def everywhere(house):
+    """All worlds of the house."""
+    return (1 << worlds_in_all(house)) - 1
+
+
+def where_so(house, fact):
+    """All worlds in which the fact is so."""
+    bit = fact_bit(house, fact)
+    # Moved up by `bit`, the worlds where it is not so are those where it is so, and both together are all.
+    where_not_so = everywhere(house) // ((1 << bit) + 1)
+    return everywhere(house) - where_not_so
+
+
+def world_by(way, world):
+    """The world behind a way of a step."""
+    behind = world
+    for when, bit, truth in way:
+        # Each when is asked of the world ahead: the changes are made at once.
+        if (when >> world) & 1:
+            behind = behind | bit if truth else (behind | bit) - bit
+    return behind
+
+
+class Step:
+    """A deed made ready to be done in many crowds."""
+
+    def __init__(self, house, deed):
+        name, need, ways = deed
+        self.name = name
+        self.need = where(house, need)
+        self.ways = [
+            [(where(house, when), fact_bit(house, fact), truth) for when, fact, truth in way] for way in ways
+        ]
+        self.kept = {}
+
+    def can(self, crowd):
+        """Whether the deed can be done in each world of the crowd."""
+        return within(crowd, self.need)
+
+    def behind(self, crowd):
+        """All worlds behind the deed, done in a crowd in which it can be."""
+        found = 0
+        while crowd > 0:
+            at = least_world(crowd) // PIECE * PIECE
+            piece = (crowd >> at) & WHOLE_PIECE
+            found |= self.behind_piece(at, piece)
+            crowd -= piece << at
+        return found
+
+    def behind_piece(self, at, piece):
+        """All worlds behind a piece of a crowd, from the world `at` on."""
+        # Kept, for in a search the same pieces come again and again.
+        if (at, piece) not in self.kept:
+            low = piece & -piece
+            if piece == low:
+                world = at + least_world(piece)
+                self.kept[(at, piece)] = number_of([world_by(way, world) for way in self.ways])
+            else:
+                self.kept[(at, piece)] = self.behind_piece(at, low) | self.behind_piece(at, piece - low)
+        return self.kept[(at, piece)]
+
+
+class Ground:
+    """A house made ready for searches among crowds."""
+
+    def __init__(self, house):
+        self.steps = [Step(house, deed) for deed in house[DEEDS]]
+        self.firsts = number_of(house[FIRSTS])
+        self.wish = where(house, house[WISH])
+
+    def is_well(self, crowd):
+        """Whether this is a crowd, and the wish holds in each of its worlds."""
+        return crowd > 0 and within(crowd, self.wish)
+
+    def steps_from(self, crowd):
+        """A tuple for each deed that can be done in the crowd: its place in the house, and the crowd behind."""
+        return [(place, step.behind(crowd)) for place, step in enumerate(self.steps) if step.can(crowd)]
+
+
+def search(start, steps_from, is_sought):
+    """What is found from the start on, in the order of how few deeds lead there, and of these by the deeds' places.
+
+    Told is a dict from each thing found to what it was found from and the place of the deed (None for the start),
+    and the first thing found that is sought, or None where all is found and nothing is sought.
+    """
+    found = {start: None}
+    if is_sought(start):
+        return found, start
+    queue = deque([start])
+    while queue:
+        here = queue.popleft()
+        for place, there in steps_from(here):
+            if there not in found:
+                refuse_too_many(found)
+                found[there] = (here, place)
+                if is_sought(there):
+                    return found, there
+                queue.append(there)
+    return found, None
+
+
+def refuse_too_many(found):
+    """Refuse one more than may be found."""
+    if len(found) >= MOST_FOUND:
+        raise TooMany(f"more than {MOST_FOUND} are found")
+
+
+def row_to(steps, found, there):
+    """The row of names of deeds that leads from the start of a search to what was found there."""
+    row = []
+    while found[there] is not None:
+        there, place = found[there]
+        row.append(steps[place].name)
+    row.reverse()
+    return row
