@@ -1,6 +1,6 @@
 """Worlds told apart: rows that go well from just one of two crowds, and the worlds from which a row goes well."""
 
-from sureplans.crowds import Ground, crowd_of, number_of, row_to, search, where, within
+from sureplans.crowds import Ground, crowd_of, number_of, row_to, search, where
 from sureplans.doing import refuse_no_crowd, steps_of_row
 from sureplans.houses import WISH
 
@@ -42,5 +42,5 @@ def good_worlds(house, row):
     """All worlds from which, alone, the row goes well, rising."""
     good = where(house, house[WISH])
     for step in reversed(steps_of_row(house, row)):
-        good = number_of([world for world in crowd_of(step.need) if within(step.behind(1 << world), good)])
+        good = step.good_ahead([good])
     return list(crowd_of(good))

@@ -1,4 +1,4 @@
-"""Crowds as whole numbers, what deeds do to them, and the search among them.
+"""Crowds as whole numbers, what deeds and looks do to them, and the search among them.
 
 Here a crowd is a number whose bit w tells that the world w is in it, and 0 is nothing. Whether one crowd lies within
 another, or was found before, is then a matter of a few sums, and thousands of crowds are searched soon.
@@ -97,11 +97,19 @@ class Step:
         self.ways = [
             [(where(house, when), fact_bit(house, fact), truth) for when, fact, truth in way] for way in ways
         ]
+        # What a way down a tree tells for the tree within.
+        self.marks = (name,)
         self.kept = {}
+        self.singles = None
+        self.good = {}
 
     def can(self, crowd):
         """Whether the deed can be done in each world of the crowd."""
         return within(crowd, self.need)
+
+    def crowds_behind(self, crowd):
+        """The crowds that the deed leads to, just one."""
+        return (self.behind(crowd),)
 
     def behind(self, crowd):
         """All worlds behind the deed, done in a crowd in which it can be."""
@@ -125,6 +133,44 @@ class Step:
                 self.kept[(at, piece)] = self.behind_piece(at, low) | self.behind_piece(at, piece - low)
         return self.kept[(at, piece)]
 
+    def good_ahead(self, goods):
+        """All worlds in which the deed can be done, and behind which there are none but of the one good crowd."""
+        good = goods[0]
+        # Kept, for plans that are made less ask for the same again and again.
+        if good not in self.good:
+            self.good[good] = number_of([world for world, behind in self.each_behind() if within(behind, good)])
+        return self.good[good]
+
+    def each_behind(self):
+        """Each world in which the deed can be done, and the crowd behind."""
+        if self.singles is None:
+            self.singles = [(world, self.behind(1 << world)) for world in crowd_of(self.need)]
+        return self.singles
+
+
+class Look:
+    """A look made ready for many crowds: what a deed's step tells of the deed, this tells of the look."""
+
+    def __init__(self, house, look):
+        name, need, seen = look
+        self.name = name
+        self.need = where(house, need)
+        self.seen = where(house, seen)
+        self.marks = ((name, True), (name, False))
+
+    def can(self, crowd):
+        """Whether the look can be looked at in each world of the crowd."""
+        return within(crowd, self.need)
+
+    def crowds_behind(self, crowd):
+        """The two sides of the crowd, yes ahead, either one perhaps nothing."""
+        return (crowd & self.seen, outside(crowd, self.seen))
+
+    def good_ahead(self, goods):
+        """All worlds in which the look can be looked at, and which are among those of the good crowd of their side."""
+        yes, no = goods
+        return self.need & ((self.seen & yes) | outside(no, self.seen))
+
 
 class Ground:
     """A house made ready for searches among crowds."""
@@ -141,6 +187,10 @@ class Ground:
     def steps_from(self, crowd):
         """A tuple for each deed that can be done in the crowd: its place in the house, and the crowd behind."""
         return [(place, step.behind(crowd)) for place, step in enumerate(self.steps) if step.can(crowd)]
+
+    def choices_in(self, crowd):
+        """A tuple for each deed that can be done in the crowd: of the one crowd behind."""
+        return [step.crowds_behind(crowd) for step in self.steps if step.can(crowd)]
 
 
 def search(start, steps_from, is_sought):

@@ -8,13 +8,7 @@ from sureplans.houses import are_worlds
 
 def never_shows(house, paper):
     """Whether the paper of never is let by for the house."""
-    if not all(are_worlds(house, crowd) for crowd in paper):
-        return False
-    ground = Ground(house)
-    crowds = numbers_each_once(paper)
-    if not has_one_within(crowds, ground.firsts) or any(ground.is_well(crowd) for crowd in crowds):
-        return False
-    return all(stays_in_paper(ground, crowds, crowd) for crowd in crowds)
+    return is_let_by(house, paper, Ground(house))
 
 
 def less_paper(house, paper):
@@ -40,6 +34,16 @@ def is_hopeless(house, paper, crowd):
     return has_one_within(numbers_each_once(paper), number_of(crowd))
 
 
+def is_let_by(house, paper, ground):
+    """Whether the paper is let by, where the ground made of the house tells the firsts, what is well, and choices."""
+    if not all(are_worlds(house, crowd) for crowd in paper):
+        return False
+    crowds = numbers_each_once(paper)
+    if not has_one_within(crowds, ground.firsts) or any(ground.is_well(crowd) for crowd in crowds):
+        return False
+    return all(stays_in_paper(ground, crowds, crowd) for crowd in crowds)
+
+
 def refuse_no_paper(house, paper):
     """Refuse with NoPaper a paper that is not let by."""
     if not never_shows(house, paper):
@@ -53,13 +57,20 @@ def numbers_each_once(paper):
 
 def has_one_within(crowds, outer):
     """Whether some one of the crowds, the keys of a dict, lies within the outer crowd."""
-    # In papers that list all that can be come to, the outer crowd is often there itself.
-    return outer in crowds or any(within(crowd, outer) for crowd in crowds)
+    return holds_one(crowds, (outer,))
+
+
+def holds_one(crowds, outers):
+    """Whether some one of the crowds, the keys of a dict, lies within some one of the outer crowds."""
+    # In papers that list all that can be come to, an outer crowd is often there itself.
+    if any(outer in crowds for outer in outers):
+        return True
+    return any(within(crowd, outer) for outer in outers for crowd in crowds)
 
 
 def stays_in_paper(ground, crowds, crowd):
-    """Whether some one of the crowds lies within the crowd behind each deed that can be done in this one."""
-    return all(has_one_within(crowds, behind) for _, behind in ground.steps_from(crowd))
+    """Whether, whatever is chosen in this crowd, some one of the crowds lies within one of those it leads to."""
+    return all(holds_one(crowds, outers) for outers in ground.choices_in(crowd))
 
 
 def places_within(crowds, outer):

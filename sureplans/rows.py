@@ -9,16 +9,24 @@ def row_goes(house, crowd, row):
     """How the row goes from the crowd: well, or stuck at a place of it, or it ends where the wish does not hold."""
     steps = steps_of_row(house, row)
     refuse_no_crowd(house, crowd)
-    crowds = [number_of(crowd)]
-    for place, step in enumerate(steps):
-        here = crowds[-1]
-        if not step.can(here):
-            return ("stuck", place, least_world(outside(here, step.need)))
-        crowds.append(step.behind(here))
+    crowds = crowds_along(steps, number_of(crowd))
+    place = len(crowds) - 1
+    if place < len(steps):
+        return ("stuck", place, least_world(outside(crowds[place], steps[place].need)))
     not_well = outside(crowds[-1], where(house, house[WISH]))
     if not_well > 0:
         return ("ends", least_world(not_well))
     return ("well", [crowd_of(number) for number in crowds])
+
+
+def crowds_along(steps, crowd):
+    """The crowds that the steps lead through, this one ahead, up to the first step that can't be done."""
+    crowds = [crowd]
+    for step in steps:
+        if not step.can(crowds[-1]):
+            return crowds
+        crowds.append(step.behind(crowds[-1]))
+    return crowds
 
 
 def may_run(house, world, row):

@@ -274,3 +274,153 @@ def ruled_maps(number):
 def ruled_samples(many):
     """So many of these, by a fixed rule, far apart from one another."""
     return [ruled_maps(place * 104729 * 7 + place) for place in range(1, many + 1)]
+
+
+def with_looks(parts, looks):
+    """The five with looks told as (name, worlds where they can be looked at, worlds in which they see yes)."""
+    facts = parts[0]
+    return with_part(parts, 2, [(name, only_in(facts, need), only_in(facts, seen)) for name, need, seen in looks])
+
+
+def seen_by(parts):
+    """The looks of the five as tuples (name, set of worlds where the need holds, set of worlds where seen holds)."""
+    facts, _, looks, _, _ = parts
+    worlds = range(1 << len(facts))
+    return [(name, *({world for world in worlds if holds_by_python(facts, condition, world)}
+                     for condition in (need, seen))) for name, need, seen in looks]
+
+
+def sides_by_map(look, crowd):
+    """Both sides of a crowd for a look told by sets, or None where it can't be looked at."""
+    _, need, seen = look
+    if not set(crowd) <= need:
+        return None
+    return (tuple(sorted(set(crowd) & seen)), tuple(sorted(set(crowd) - seen)))
+
+
+def walk_by_maps(maps, looks, well, crowd, tree, way=()):
+    """The walk of [33], by calls within calls: (kind, way, worlds) for each part that bars it, and each end."""
+    if tree[0] == "end":
+        bars = set(crowd) - well
+        yield ("ends", way, bars) if bars else ("well", way, crowd)
+    elif tree[0] == "do":
+        behind = dict(maps)[tree[1]]
+        bars = set(crowd) - set(behind)
+        if bars:
+            yield ("stuck", way, bars)
+        else:
+            yield from walk_by_maps(maps, looks, well, crowd_by_map(behind, crowd), tree[2], way + (tree[1],))
+    else:
+        look = next(each for each in looks if each[0] == tree[1])
+        bars = set(crowd) - look[1]
+        if bars:
+            yield ("stuck", way, bars)
+        else:
+            for side, truth, within in zip(sides_by_map(look, crowd), (True, False), tree[2:]):
+                if side:
+                    yield from walk_by_maps(maps, looks, well, side, within, way + ((tree[1], truth),))
+
+
+def tree_goes_by_maps(maps, looks, well, crowd, tree):
+    """What [33] tells, from deeds told by dicts and looks told by sets."""
+    ends = []
+    for kind, way, worlds in walk_by_maps(maps, looks, well, crowd, tree):
+        if kind != "well":
+            return (kind, list(way), min(worlds))
+        ends.append(worlds)
+    return ("well", ends)
+
+
+def crowds_with_looks(maps, looks, first):
+    """All crowds that can be come to by deeds and by sides that aren't ()."""
+    found, todo = {first}, [first]
+    while todo:
+        crowd = todo.pop()
+        behind = [crowd_by_map(each, crowd) for _, each in maps]
+        for look in looks:
+            behind += sides_by_map(look, crowd) or ()
+        for there in behind:
+            if there and there not in found:
+                found.add(there)
+                todo.append(there)
+    return found
+
+
+def parts_by_maps(maps, looks, well, crowd, depth, kept):
+    """How few parts a tree of at most this depth has that goes well from the crowd, or None; by plain trial."""
+    if set(crowd) <= well:
+        return 1
+    if depth == 0:
+        return None
+    if (crowd, depth) not in kept:
+        choices = [(crowd_by_map(behind, crowd),) for _, behind in maps]
+        choices += [sides_by_map(look, crowd) or (None,) for look in looks]
+        found = []
+        for crowds in choices:
+            if None not in crowds and () not in crowds:
+                within = [parts_by_maps(maps, looks, well, each, depth - 1, kept) for each in crowds]
+                if None not in within:
+                    found.append(1 + sum(within))
+        kept[(crowd, depth)] = min(found, default=None)
+    return kept[(crowd, depth)]
+
+
+def least_by_maps(maps, looks, well, crowd, most):
+    """The least depth, at most this, and its least parts, of a tree that goes well from the crowd, or None."""
+    kept = {}
+    for depth in range(most + 1):
+        parts = parts_by_maps(maps, looks, well, crowd, depth, kept)
+        if parts is not None:
+            return (depth, parts)
+    return None
+
+
+def let_by_with_looks(maps, looks, well, firsts, paper):
+    """Whether a paper of crowds is let by [36], from deeds told by dicts and looks told by sets."""
+    sets = [set(crowd) for crowd in paper]
+    for crowd in paper:
+        for look in looks:
+            sides = sides_by_map(look, crowd)
+            if sides is not None and not any(each <= set(side) for each in sets for side in sides):
+                return False
+    return let_by_maps(maps, well, firsts, paper)
+
+
+def all_trees(deeds, looks, depth):
+    """All trees of at most this depth over names of deeds and looks."""
+    trees = [("end",)]
+    if depth > 0:
+        within = all_trees(deeds, looks, depth - 1)
+        trees += [("do", name, tree) for name in deeds for tree in within]
+        trees += [("see", name, yes, no) for name in looks for yes in within for no in within]
+    return trees
+
+
+def random_tree(chance, deeds, looks, depth):
+    """A tree of at most this depth over names of deeds and looks, by a chance that is seeded."""
+    kinds = (["do"] * 3 if deeds else []) + (["see"] * 2 if looks else [])
+    if depth == 0 or not kinds or chance.random() < 0.2:
+        return ("end",)
+    if chance.choice(kinds) == "do":
+        return ("do", chance.choice(deeds), random_tree(chance, deeds, looks, depth - 1))
+    return ("see", chance.choice(looks), random_tree(chance, deeds, looks, depth - 1),
+            random_tree(chance, deeds, looks, depth - 1))
+
+
+def ruled_looks(number):
+    """Two looks over four worlds, by the figures of a number, told by sets of worlds."""
+    needs = [range(4), range(4), [0, 1], [1, 2, 3], [2, 3]]
+    seens = [[0], [1], [3], [0, 1], [1, 2], [0, 3], [], [0, 1, 2, 3]]
+    number, one = divmod(number, 5)
+    number, other = divmod(number, 5)
+    number, first = divmod(number, 8)
+    return [("peep", set(needs[one]), set(seens[first])), ("feel", set(needs[other]), set(seens[number % 8]))]
+
+
+def ruled_with_looks(many):
+    """So many samples with looks, by a fixed rule: deeds, looks, firsts, the worlds of the wish, and the five."""
+    samples = []
+    for place, (maps, firsts, well) in enumerate(ruled_samples(many)):
+        looks = ruled_looks(place * 37 + place // 5)
+        samples.append((maps, looks, firsts, well, with_looks(mapped_parts(2, maps, firsts, well), looks)))
+    return samples

@@ -36,6 +36,22 @@ FUNCTIONS = {
         "parting_row": ["house", "one", "other"],
         "good_worlds": ["house", "row"],
     },
+    "looking": {
+        "sides_of": ["house", "look", "crowd"],
+        "looks_in": ["house", "crowd"],
+    },
+    "trees": {
+        "tree_parts": ["tree"],
+        "tree_depth": ["tree"],
+        "tree_goes": ["house", "crowd", "tree"],
+        "tree_of_row": ["row"],
+        "rows_of_tree": ["tree"],
+    },
+    "treesure": {
+        "sure_tree": ["house"],
+        "least_depths": ["house", "crowds"],
+        "never_with_looks": ["house", "paper"],
+    },
 }
 CLASSES = {
     "errors": ["PlanError", "NoHouse", "NoDeed", "NoWorld", "NoNeed", "NoPaper", "TooMany", "NoLook",

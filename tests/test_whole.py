@@ -8,11 +8,15 @@ import unittest
 from sureplans.apart import good_worlds, parting_row
 from sureplans.errors import PlanError, TooMany
 from sureplans.houses import house_of
+from sureplans.looking import looks_in, sides_of
 from sureplans.never import is_hopeless, less_paper, never_shows
 from sureplans.rows import known_in, may_run, row_goes
 from sureplans.sure import how_many_rows, least_deeds, sure_row
+from sureplans.trees import rows_of_tree, tree_depth, tree_goes, tree_of_row, tree_parts
+from sureplans.treesure import least_depths, never_with_looks, sure_tree
 from tests.samples import (
-    LETTERS, NEVER, YES, fact, mapped_parts, random_condition, refusal_of, ruled_samples, two_counters)
+    LETTERS, NEVER, YES, all_trees, fact, mapped_parts, random_condition, random_tree, refusal_of,
+    ruled_samples, ruled_with_looks, two_counters, with_looks)
 
 # What "within seconds" means here, for one call on a slow machine.
 SECONDS = 30
@@ -75,6 +79,86 @@ class TestTheWhole(unittest.TestCase):
         self.assertIs(is_hopeless(house, [(255,)], (0, 255)), True)
 
 
+class TestTheWholeWithLooks(unittest.TestCase):
+    """[4], of trees with looks."""
+
+    def test_just_one_is_told_of_each_house(self):
+        told = []
+        for maps, _, firsts, _, parts in ruled_with_looks(160):
+            house, names, crowd = house_of(*parts), [name for name, _ in maps], tuple(firsts)
+            kind, shown = sure_tree(house)
+            if kind == "tree":
+                told.append((kind, tree_depth(shown)))
+                self.assertEqual(tree_goes(house, crowd, shown)[0], "well")
+                self.check_none(house, names, crowd, tree_depth(shown) - 1)
+                self.assertEqual(least_depths(house, [crowd]), [tree_depth(shown)])
+            else:
+                told.append((kind, len(shown)))
+                self.check_never(house, names, crowd, shown)
+        self.assertTrue({("tree", 0), ("tree", 1), ("tree", 2), ("never", 1), ("never", 2)} <= set(told), set(told))
+
+    def check_none(self, house, names, crowd, depth):
+        """No tree of at most this depth, or of as much of it as can be tried, goes well."""
+        for tree in all_trees(names, ["peep", "feel"], min(depth, 2)) if depth >= 0 else []:
+            self.assertNotEqual(tree_goes(house, crowd, tree)[0], "well")
+
+    def check_never(self, house, names, crowd, paper):
+        self.assertIs(never_with_looks(house, paper), True)
+        self.assertIs(never_shows(house, paper), True)
+        self.assertEqual(least_depths(house, [crowd]), [None])
+        # Then no row goes well, either.
+        self.assertEqual((sure_row(house)[0], how_many_rows(house)), ("never", 0))
+        self.check_none(house, names, crowd, 2)
+
+    def test_no_tree_three_deep_goes_well_where_the_paper_is_told(self):
+        tried = 0
+        for maps, _, firsts, _, parts in ruled_with_looks(60):
+            house = house_of(*parts)
+            if sure_tree(house)[0] == "never" and tried < 8:
+                tried += 1
+                for tree in all_trees([name for name, _ in maps], ["peep", "feel"], 3):
+                    self.assertNotEqual(tree_goes(house, tuple(firsts), tree)[0], "well")
+        self.assertEqual(tried, 8)
+
+    def test_a_tree_is_no_deeper_than_a_row_is_long(self):
+        told = []
+        for _, _, firsts, _, parts in ruled_with_looks(300):
+            house = house_of(*parts)
+            (kind, row), (other, tree) = sure_row(house), sure_tree(house)
+            told.append((kind, other))
+            if kind == "row":
+                self.assertEqual(other, "tree")
+                self.assertLessEqual(tree_depth(tree), len(row))
+                self.assertEqual(tree_goes(house, tuple(firsts), tree_of_row(row))[0], "well")
+        self.assertEqual(set(told), {("row", "tree"), ("never", "tree"), ("never", "never")})
+
+    def test_whoever_made_the_paper_no_tree_is_told_beside_it(self):
+        crowds = [crowd for many in (1, 2, 3, 4) for crowd in itertools.combinations(range(4), many)]
+        papers = [list(paper) for many in (1, 2) for paper in itertools.combinations(crowds, many)]
+        let_by = 0
+        for _, _, _, _, parts in ruled_with_looks(60):
+            house = house_of(*parts)
+            kind, _ = sure_tree(house)
+            for paper in papers:
+                if never_with_looks(house, paper):
+                    let_by += 1
+                    self.assertEqual(kind, "never")
+                    self.assertIs(never_shows(house, paper), True)
+        self.assertGreater(let_by, 100)
+
+    def test_too_many_crowds(self):
+        house = house_of(*mapped_parts(8, two_counters(29, 69), [0, 128], [0, 128]))
+        self.assertIs(refusal_of(sure_tree, house), TooMany)
+        # The row of no deeds is told, for it looks no further.
+        self.assertEqual(sure_row(house), ("row", []))
+
+    def test_a_paper_may_show_it_where_too_many_crowds_are_come_to(self):
+        maps = [(name, {**behind, 255: [255]}) for name, behind in two_counters(29, 69)]
+        house = house_of(*with_looks(mapped_parts(8, maps, [0, 128, 255], []), [("peep", range(256), [0, 128])]))
+        self.assertIs(refusal_of(sure_tree, house), TooMany)
+        self.assertIs(never_with_looks(house, [(255,)]), True)
+
+
 def deep_condition(chance, facts, depth):
     """A condition twenty within one another, each of them beside a fact."""
     deep = fact(chance.choice(facts))
@@ -83,8 +167,14 @@ def deep_condition(chance, facts, depth):
     return deep
 
 
+def greatest_looks(chance, facts):
+    """Six looks, some of which can't be looked at everywhere, with deep conditions."""
+    needs = [YES] * 4 + [deep_condition(chance, facts, 19) for _ in range(2)]
+    return [("see" + name, need, deep_condition(chance, facts, 19)) for name, need in zip(facts, needs)]
+
+
 def greatest_houses():
-    """Houses of ten facts, twelve deeds of four ways, and sixty-four firsts, of many kinds."""
+    """Houses of ten facts, twelve deeds of four ways, six looks, and sixty-four firsts, of many kinds."""
     facts = list(LETTERS[:10])
     for seed in range(8):
         chance = random.Random(seed)
@@ -98,11 +188,25 @@ def greatest_houses():
             # By one way alone, crowds stay few and small; by four, they are soon of hundreds of worlds.
             deeds.append(("go" + letter, YES, ways if kind % 2 else [ways[0]] * 4))
         firsts = sorted(chance.sample(range(1024), 64))
-        yield house_of(facts, deeds, [], firsts, NEVER if seed < 4 else deep_condition(chance, facts, 19))
+        wish = NEVER if seed < 4 else deep_condition(chance, facts, 19)
+        yield house_of(facts, deeds, greatest_looks(chance, facts), firsts, wish)
     # Each deed sets a fact by chance, or not so: the crowds that are found are few, and great.
     mixing = [("go" + letter, YES, [[(YES, facts[at - 2], True)], [], [(YES, facts[at - 2], False)], []])
               for at, letter in enumerate(LETTERS)]
     yield house_of(facts, mixing, [], list(range(64)), NEVER)
+    yield house_of(facts, mixing, [("see" + name, YES, fact(name)) for name in facts[:2]], list(range(64)), NEVER)
+
+
+def slow_counters():
+    """A house of nearly two thousand crowds, twelve deeds and six looks, and a tree of more than two hundred depth."""
+    maps = []
+    for kind, letter in enumerate(LETTERS):
+        behind = {at: [min(at + 1, 214)] if kind % 2 == 0 else [max(at - kind % 5, 0)] for at in range(215)}
+        behind.update({256 + at: [256 + (at + kind) % 8] for at in range(8)})
+        maps.append(("go" + letter, behind))
+    worlds = [*range(215), *range(256, 264)]
+    looks = [("see" + letter, worlds, range(0, 1024, place + 2)) for place, letter in enumerate(LETTERS[:6])]
+    return house_of(*with_looks(mapped_parts(10, maps, [0, 256], [214, *range(256, 264)]), looks))
 
 
 class TestSoon(unittest.TestCase):
@@ -134,6 +238,43 @@ class TestSoon(unittest.TestCase):
             self.assertLessEqual(len(self.soon(known_in, house, firsts)), 10)
             if told is not None and told[0] == "never":
                 self.papers(house, told[1], firsts)
+            self.trees(house, firsts, names)
+
+    def trees(self, house, firsts, names):
+        looks = [look[0] for look in house[2]]
+        for crowd in (firsts, firsts[:1], tuple(range(1024))):
+            self.assertLessEqual(len(self.soon(looks_in, house, crowd)), 6)
+        for look in looks[:4]:
+            self.assertEqual(sum(map(len, self.soon(sides_of, house, look, firsts))), len(firsts))
+        told = self.soon(sure_tree, house)
+        self.soon(least_depths, house, [firsts, firsts[:1], tuple(range(64)), firsts])
+        if told is not None and told[0] == "never":
+            self.assertIs(self.soon(never_with_looks, house, told[1]), True)
+        chance = random.Random(40)
+        for depth in (39, 8):
+            tree = random_tree(chance, names, looks[:4], depth)
+            self.assertIn(self.soon(tree_goes, house, firsts, tree)[0], ("well", "ends"))
+            self.assertEqual(self.soon(tree_depth, tree) + 1 <= 40, True)
+            self.assertLessEqual(len(self.soon(rows_of_tree, tree)), self.soon(tree_parts, tree))
+
+    def test_a_deep_tree_among_nearly_two_thousand_crowds(self):
+        house = slow_counters()
+        kind, tree = self.soon(sure_tree, house)
+        self.assertEqual((kind, self.soon(tree_depth, tree), self.soon(tree_parts, tree)), ("tree", 214, 215))
+        self.assertEqual(self.soon(tree_goes, house, (0, 256), tree)[0], "well")
+        self.assertEqual(self.soon(least_depths, house, [(at,) for at in range(215)]), list(range(214, -1, -1)))
+        self.assertEqual(self.soon(least_depths, house, [(at, 256 + at % 8) for at in range(64)]),
+                         [214 - at for at in range(64)])
+
+    def test_a_paper_of_two_thousand_crowds_with_looks(self):
+        # No side of a look is in the paper itself, so that others are to be looked through.
+        worlds = range(1024)
+        looks = [("see" + letter, worlds, [at for at in worlds if at >> place & 1])
+                 for place, letter in enumerate(LETTERS[:6])]
+        house = house_of(*with_looks(mapped_parts(10, [("go", {at: [at] for at in worlds})], range(64), []), looks))
+        paper = [(0, at) for at in range(1, 1024)] + [(0, 1, at) for at in range(2, 978)] + [(0,)]
+        self.assertIs(self.soon(never_with_looks, house, paper), True)
+        self.assertIs(self.soon(never_with_looks, house, paper[:-1]), False)
 
     def papers(self, house, paper, firsts):
         self.assertIs(self.soon(never_shows, house, paper), True)
