@@ -118,6 +118,12 @@ def look_names_only(facts, look):
 
 def names_only(facts, condition):
     """Whether the condition names these facts alone."""
-    if condition[0] == "fact":
-        return condition[1] in facts
-    return all(names_only(facts, part) for part in condition[1:])
+    # Not by calls within calls: a text may write a condition that is deeper than they can be.
+    todo = [condition]
+    while todo:
+        part = todo.pop()
+        if part[0] != "fact":
+            todo.extend(part[1:])
+        elif part[1] not in facts:
+            return False
+    return True

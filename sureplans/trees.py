@@ -71,8 +71,10 @@ def rows_of_tree(tree):
 
 def walked_next(part, act, here, way):
     """What is walked next behind a do or a see: trees with the crowds that come to them, and the ways there."""
-    told = zip(part[2:], act.crowds_behind(here), act.marks)
-    return [(within, there, (way, mark)) for within, there, mark in told if there > 0]
+    return [
+        (within, there, (way, mark))
+        for within, there, mark in zip(part[2:], act.crowds_behind(here), act.marks) if there > 0
+    ]
 
 
 def marks_on(way):

@@ -37,13 +37,26 @@ class Seeing:
 
 def sure_tree(house):
     """A least tree that goes well from the firsts, or a paper of never with looks where there is none."""
+    counts, told = least_sought(house)
+    return ("tree", told) if counts is not None else ("never", told)
+
+
+def sure_counts(house):
+    """The depth and the parts of the tree that sure_tree tells, or None; it may have more than can be walked."""
+    counts, _ = least_sought(house)
+    return counts
+
+
+def least_sought(house):
+    """The depth and the parts of a least tree that goes well from the firsts, and the tree; or None, and a paper."""
     seeing = Seeing(house)
     found = come_to(seeing, seeing.firsts)
     depths = depths_in(seeing, found)
-    if seeing.firsts in depths:
-        _, tree = least_tree(seeing, found, depths[seeing.firsts])
-        return ("tree", tree)
-    return ("never", [crowd_of(crowd) for crowd in found if crowd not in depths])
+    if seeing.firsts not in depths:
+        return (None, [crowd_of(crowd) for crowd in found if crowd not in depths])
+    depth = depths[seeing.firsts]
+    parts, tree = least_tree(seeing, found, depth)
+    return ((depth, parts), tree)
 
 
 def least_depths(house, crowds):
@@ -74,8 +87,9 @@ def come_to(seeing, start):
     queue = deque([start])
     while queue:
         here = queue.popleft()
-        found[here] = seeing.acts_in(here)
-        for _, crowds in found[here]:
+        acts = seeing.acts_in(here)
+        found[here] = acts
+        for _, crowds in acts:
             for there in crowds:
                 if there not in found:
                     refuse_too_many(found)

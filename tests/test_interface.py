@@ -52,11 +52,35 @@ FUNCTIONS = {
         "least_depths": ["house", "crowds"],
         "never_with_looks": ["house", "paper"],
     },
+    "spare": {
+        "row_made_less": ["house", "crowd", "row"],
+        "tree_made_less": ["house", "crowd", "tree"],
+        "bare_tree": ["house", "crowd", "tree"],
+    },
+    "together": {
+        "side_by_side": ["one", "other"],
+        "paper_for_both": ["one", "other", "paper"],
+        "row_for_both": ["one", "other", "row", "other_row"],
+        "house_kept_to": ["house", "facts"],
+    },
+    "texts": {
+        "show_house": ["house"],
+        "show_row": ["row"],
+        "show_tree": ["tree"],
+        "show_condition": ["condition"],
+        "read_house": ["text"],
+        "read_row": ["text"],
+        "read_tree": ["text"],
+        "read_condition": ["text"],
+    },
 }
 CLASSES = {
     "errors": ["PlanError", "NoHouse", "NoDeed", "NoWorld", "NoNeed", "NoPaper", "TooMany", "NoLook",
                "NoPlan", "NoText", "NoForm", "NoneYet"],
+    "desk": ["Desk"],
 }
+# The methods that are listed, each in the body of the class itself.
+METHODS = {("desk", "Desk"): {"__init__": ["self"], "say": ["self", "row"]}}
 
 
 def rows_of(name):
@@ -77,6 +101,12 @@ class TestInterface(unittest.TestCase):
         for name, listed in CLASSES.items():
             defined = [row.name for row in rows_of(name) if isinstance(row, ast.ClassDef)]
             self.assertEqual(sorted(defined), sorted(listed))
+
+    def test_methods(self):
+        for (name, listed), methods in METHODS.items():
+            body = next(row.body for row in rows_of(name) if isinstance(row, ast.ClassDef) and row.name == listed)
+            defined = {row.name: [each.arg for each in row.args.args] for row in body if isinstance(row, ast.FunctionDef)}
+            self.assertEqual(defined, methods)
 
 
 if __name__ == "__main__":

@@ -123,7 +123,21 @@ class TestLanguage(unittest.TestCase):
                 if isinstance(row, ast.Assign):
                     self.assertIsInstance(row.targets[0], ast.Name)
                     self.assertEqual(len(row.targets), 1)
-                    ast.literal_eval(row.value)
+                    self.check_plain(row.value, [each.name for each in body if isinstance(each, ast.FunctionDef)
+                                                 and each.lineno < row.lineno])
+
+    def check_plain(self, value, functions):
+        """Plain values, and dicts of functions defined above."""
+        if isinstance(value, ast.Dict) and isinstance(value.values[0], ast.Name):
+            for each in value.values:
+                self.assertIn(each.id, functions)
+        else:
+            ast.literal_eval(value)
+
+    def test_functions_of_tables_are_called_by_a_name(self):
+        for path in self.each_file():
+            for node in nodes_of(path, ast.Call):
+                self.assertIsInstance(node.func, (ast.Name, ast.Attribute), node.lineno)
 
     def test_each_name_is_bound_once_and_shadows_nothing(self):
         for path in self.each_file():

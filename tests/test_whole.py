@@ -2,16 +2,21 @@
 
 import itertools
 import random
+import re
 import time
 import unittest
 
 from sureplans.apart import good_worlds, parting_row
-from sureplans.errors import PlanError, TooMany
+from sureplans.desk import Desk
+from sureplans.errors import NoPlan, PlanError, TooMany
 from sureplans.houses import house_of
 from sureplans.looking import looks_in, sides_of
 from sureplans.never import is_hopeless, less_paper, never_shows
 from sureplans.rows import known_in, may_run, row_goes
+from sureplans.spare import bare_tree, row_made_less, tree_made_less
 from sureplans.sure import how_many_rows, least_deeds, sure_row
+from sureplans.texts import read_house, read_row, read_tree, show_house, show_row, show_tree
+from sureplans.together import house_kept_to, paper_for_both, row_for_both, side_by_side
 from sureplans.trees import rows_of_tree, tree_depth, tree_goes, tree_of_row, tree_parts
 from sureplans.treesure import least_depths, never_with_looks, sure_tree
 from tests.samples import (
@@ -159,6 +164,90 @@ class TestTheWholeWithLooks(unittest.TestCase):
         self.assertIs(never_with_looks(house, [(255,)]), True)
 
 
+def called_otherwise(parts):
+    """The five with a z behind each name."""
+    return eval(re.sub("'((?!yes|fact|not|both|either)[a-z]+)'", r"'\1z'", repr(parts)))
+
+
+class TestTheWholeTogether(unittest.TestCase):
+    """[4], of rows and trees, spare parts, houses side by side, texts and the desk."""
+
+    def test_all_is_told_of_each_house_as_the_points_tell_it_together(self):
+        told = []
+        for maps, _, firsts, _, parts in ruled_with_looks(150):
+            house, crowd = house_of(*parts), tuple(firsts)
+            (kind, shown), (other, deep) = sure_row(house), sure_tree(house)
+            told.append((kind, other))
+            if kind == "row":
+                self.check_row(house, crowd, shown, [name for name, _ in maps])
+            else:
+                self.assertIs(never_shows(house, less_paper(house, shown)), True)
+            if other == "tree":
+                self.check_tree(house, crowd, deep)
+            else:
+                self.assertEqual((kind, never_with_looks(house, deep), never_shows(house, deep)), ("never", True, True))
+            self.check_desk(house, kind, shown, other, deep)
+        self.assertEqual(set(told), {("row", "tree"), ("never", "tree"), ("never", "never")})
+
+    def check_row(self, house, crowd, row, names):
+        """A told row has no spare deed, and a longer one that goes well is made less to a row without any."""
+        self.assertEqual(row_made_less(house, crowd, row), row)
+        self.assertEqual(read_row(show_row(row)), row)
+        for name in names:
+            for place in range(len(row) + 1):
+                longer = row[:place] + [name] + row[place:]
+                if row_goes(house, crowd, longer)[0] == "well":
+                    less = row_made_less(house, crowd, longer)
+                    self.assertGreaterEqual(len(less), len(row))
+                    for at in range(len(less)):
+                        self.assertNotEqual(row_goes(house, crowd, less[:at] + less[at + 1:])[0], "well")
+
+    def check_tree(self, house, crowd, tree):
+        """A told tree has no spare part, and is bare; what is put ahead of it goes again."""
+        self.assertEqual(tree_made_less(house, crowd, tree), tree)
+        self.assertEqual(bare_tree(house, crowd, tree), tree)
+        self.assertEqual(read_tree(show_tree(tree)), tree)
+        for name, _, _ in house[2]:
+            longer = ("see", name, tree, tree)
+            if tree_goes(house, crowd, longer)[0] == "well":
+                self.assertEqual(tree_made_less(house, crowd, longer), tree)
+                self.assertEqual(tree_goes(house, crowd, bare_tree(house, crowd, longer)), tree_goes(house, crowd, longer))
+
+    def check_desk(self, house, kind, shown, other, deep):
+        desk = Desk()
+        for row in show_house(house).split("\n"):
+            self.assertEqual(desk.say("row " + row), "ok")
+        self.assertEqual(desk.say("read"), f"worlds {len(house[3])}")
+        self.assertEqual(desk.say("sure"), f"row {show_row(shown)}" if kind == "row" else "never")
+        self.assertEqual(desk.say("tree"), f"tree {tree_depth(deep)} {tree_parts(deep)}" if other == "tree" else "never")
+        if kind == "row":
+            self.assertEqual(desk.say(f"goes {show_row(shown)}"), "well")
+            self.assertEqual(desk.say(f"spare {show_row(shown)}"), show_row(shown))
+
+    def test_houses_side_by_side(self):
+        told = []
+        samples = ruled_with_looks(160)
+        for (_, _, _, _, parts), (_, _, _, _, other_parts) in zip(samples[::2], samples[1::2]):
+            one, other = house_of(*parts), house_of(*called_otherwise(other_parts))
+            both = side_by_side(one, other)
+            self.assertEqual(read_house(show_house(both)), both)
+            (kind, shown), (other_kind, other_shown) = sure_row(one), sure_row(other)
+            told.append((kind, other_kind))
+            self.assertEqual(sure_row(both)[0] == "row", kind == other_kind == "row")
+            if kind == "never":
+                paper = paper_for_both(one, other, shown)
+                self.assertIs(never_shows(both, paper), True)
+                self.assertIs(is_hopeless(both, paper, tuple(both[3])), True)
+            elif other_kind == "row":
+                row = row_for_both(one, other, shown, other_shown)
+                self.assertEqual(row_goes(both, tuple(both[3]), row)[0], "well")
+                self.assertEqual(len(sure_row(both)[1]), len(row))
+            self.assertEqual(sure_tree(both)[0] == "tree", sure_tree(one)[0] == sure_tree(other)[0] == "tree")
+            kept = house_kept_to((*both[:4], one[4]), one[0])
+            self.assertEqual(kept, one)
+        self.assertEqual(len(set(told)), 4)
+
+
 def deep_condition(chance, facts, depth):
     """A condition twenty within one another, each of them beside a fact."""
     deep = fact(chance.choice(facts))
@@ -197,6 +286,17 @@ def greatest_houses():
     yield house_of(facts, mixing, [("see" + name, YES, fact(name)) for name in facts[:2]], list(range(64)), NEVER)
 
 
+def great_tree(chance, deeds, looks):
+    """A tree of about two hundred and forty parts, at most forty deep; of forty where there are no looks."""
+    if not looks:
+        return tree_of_row([chance.choice(deeds) for _ in range(39)])
+    many = 0
+    while not 200 <= many <= 240:
+        tree = random_tree(chance, deeds, looks, 39)
+        many = tree_parts(tree)
+    return tree
+
+
 def slow_counters():
     """A house of nearly two thousand crowds, twelve deeds and six looks, and a tree of more than two hundred depth."""
     maps = []
@@ -218,7 +318,7 @@ class TestSoon(unittest.TestCase):
         try:
             return call(*arguments)
         except PlanError as refused:
-            self.assertIs(refused.__class__, TooMany)
+            self.assertIn(refused.__class__, (TooMany, NoPlan))
             return None
         finally:
             self.assertLess(time.monotonic() - begun, SECONDS, call.__name__)
@@ -265,6 +365,42 @@ class TestSoon(unittest.TestCase):
         self.assertEqual(self.soon(least_depths, house, [(at,) for at in range(215)]), list(range(214, -1, -1)))
         self.assertEqual(self.soon(least_depths, house, [(at, 256 + at % 8) for at in range(64)]),
                          [214 - at for at in range(64)])
+
+    def test_spare_parts_of_the_greatest_plans(self):
+        chance = random.Random(38)
+        for house in greatest_houses():
+            firsts, names = tuple(house[3]), [deed[0] for deed in house[1]]
+            looks = [look[0] for look in house[2]][:4]
+            free = house_of(*house[:4], YES)
+            tree = great_tree(chance, names, looks)
+            for told in (free, house):
+                row = [chance.choice(names) for _ in range(30)]
+                if row_goes(told, firsts, row)[0] == "well":
+                    less = self.soon(row_made_less, told, firsts, row)
+                    self.assertEqual(row_goes(told, firsts, less)[0], "well")
+                if tree_goes(told, firsts, tree)[0] == "well":
+                    less = self.soon(tree_made_less, told, firsts, tree)
+                    self.assertEqual(tree_goes(told, firsts, less)[0], "well")
+                    bare = self.soon(bare_tree, told, firsts, tree)
+                    self.assertEqual(tree_goes(told, firsts, bare), tree_goes(told, firsts, tree))
+            self.assertEqual(tree_made_less(free, firsts, tree), ("end",))
+
+    def test_a_great_plan_of_which_little_is_spare(self):
+        # Each step of 5 is needed to come from anywhere below 64 to above 900; what stays is put between.
+        maps = [("step", {at: [min(at + 29, 1023), min(at + 31, 1023)] for at in range(1024)}),
+                ("stay", {at: [at] for at in range(1024)})]
+        looks = [("see" + letter, range(1024), [at for at in range(1024) if at >> place & 1])
+                 for place, letter in enumerate(LETTERS[:6])]
+        house = house_of(*with_looks(mapped_parts(10, maps, range(64), range(700, 1024)), looks))
+        row = ["stay"] * 3 + ["step"] * 25 + ["stay"] * 2
+        self.assertEqual(self.soon(row_made_less, house, tuple(range(64)), row), ["step"] * 25)
+        tree = tree_of_row(["step", "stay"] * 12 + ["step"] * 13)
+        tree = ("see", "seea", tree, ("see", "seeb", tree, ("see", "seec", tree, ("see", "seed", tree, ("end",)))))
+        self.assertIsNone(self.soon(tree_made_less, house, tuple(range(64)), tree))
+        tree = tree_of_row(["step", "stay"] * 12 + ["step"] * 13)
+        tree = ("see", "seea", tree, ("see", "seeb", tree, ("see", "seec", tree, tree)))
+        less = self.soon(tree_made_less, house, tuple(range(64)), tree)
+        self.assertEqual(less, tree_of_row(["step"] * 25))
 
     def test_a_paper_of_two_thousand_crowds_with_looks(self):
         # No side of a look is in the paper itself, so that others are to be looked through.
