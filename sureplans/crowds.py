@@ -16,23 +16,51 @@ MOST_FOUND = 2000
 PIECE = 8
 WHOLE_PIECE = 255
 
+# Numbers of the greatest houses are very long, and so taken apart by so many worlds at a time.
+CHUNK = 1024
+
+# What is behind pieces of a crowd is kept for houses of at most so many worlds: for greater ones it would be too much.
+MOST_WORLDS_KEPT = 4096
+
 
 def number_of(worlds):
     """The crowd of these worlds as a number."""
-    number = 0
+    chunks = {}
     for world in worlds:
-        number |= 1 << world
+        at = world // CHUNK
+        chunks[at] = chunks.get(at, 0) | (1 << (world - at * CHUNK))
+    number = 0
+    for at, chunk in chunks.items():
+        number |= chunk << (at * CHUNK)
     return number
 
 
 def crowd_of(number):
     """The crowd as a tuple of its worlds, rising."""
     worlds = []
-    while number > 0:
-        world = least_world(number)
-        worlds.append(world)
-        number -= 1 << world
+    for at, chunk in enumerate(chunks_of(number)):
+        left = chunk
+        while left > 0:
+            world = least_world(left)
+            worlds.append(at * CHUNK + world)
+            left -= 1 << world
     return tuple(worlds)
+
+
+def chunks_of(number):
+    """The crowd in chunks: the first worlds of the house, the next ones, and so on up to the last of the crowd."""
+    whole = (1 << CHUNK) - 1
+    chunks = []
+    while number > 0:
+        chunks.append(number & whole)
+        number >>= CHUNK
+    return chunks
+
+
+def is_in_chunks(chunks, world):
+    """Whether the world is in the crowd of these chunks."""
+    at = world // CHUNK
+    return at < len(chunks) and ((chunks[at] >> (world - at * CHUNK)) & 1) > 0
 
 
 def least_world(number):
@@ -72,17 +100,21 @@ def everywhere(house):
 def where_so(house, fact):
     """All worlds in which the fact is so."""
     bit = fact_bit(house, fact)
-    # Moved up by `bit`, the worlds where it is not so are those where it is so, and both together are all.
-    where_not_so = everywhere(house) // ((1 << bit) + 1)
-    return everywhere(house) - where_not_so
+    # So many worlds where it is not so, as many where it is so, and this again and again.
+    so = ((1 << bit) - 1) << bit
+    width = 2 * bit
+    while width < worlds_in_all(house):
+        so |= so << width
+        width = 2 * width
+    return so
 
 
 def world_by(way, world):
-    """The world behind a way of a step."""
+    """The world behind a way of a step, whose whens are crowds in chunks."""
     behind = world
     for when, bit, truth in way:
         # Each when is asked of the world ahead: the changes are made at once.
-        if (when >> world) & 1:
+        if is_in_chunks(when, world):
             behind = behind | bit if truth else (behind | bit) - bit
     return behind
 
@@ -95,10 +127,11 @@ class Step:
         self.name = name
         self.need = where(house, need)
         self.ways = [
-            [(where(house, when), fact_bit(house, fact), truth) for when, fact, truth in way] for way in ways
+            [(chunks_of(where(house, when)), fact_bit(house, fact), truth) for when, fact, truth in way] for way in ways
         ]
         # What a way down a tree tells for the tree within.
         self.marks = (name,)
+        self.is_great = worlds_in_all(house) > MOST_WORLDS_KEPT
         self.kept = {}
         self.singles = None
         self.good = {}
@@ -113,6 +146,8 @@ class Step:
 
     def behind(self, crowd):
         """All worlds behind the deed, done in a crowd in which it can be."""
+        if self.is_great:
+            return number_of([there for world in crowd_of(crowd) for there in self.worlds_behind(world)])
         found = 0
         while crowd > 0:
             at = least_world(crowd) // PIECE * PIECE
@@ -127,25 +162,36 @@ class Step:
         if (at, piece) not in self.kept:
             low = piece & -piece
             if piece == low:
-                world = at + least_world(piece)
-                self.kept[(at, piece)] = number_of([world_by(way, world) for way in self.ways])
+                self.kept[(at, piece)] = number_of(self.worlds_behind(at + least_world(piece)))
             else:
                 self.kept[(at, piece)] = self.behind_piece(at, low) | self.behind_piece(at, piece - low)
         return self.kept[(at, piece)]
+
+    def worlds_behind(self, world):
+        """The world behind each way of the deed."""
+        return [world_by(way, world) for way in self.ways]
 
     def good_ahead(self, goods):
         """All worlds in which the deed can be done, and behind which there are none but of the one good crowd."""
         good = goods[0]
         # Kept, for plans that are made less ask for the same again and again.
         if good not in self.good:
-            self.good[good] = number_of([world for world, behind in self.each_behind() if within(behind, good)])
+            self.good[good] = number_of(self.great_ahead(good) if self.is_great else self.worlds_ahead(good))
         return self.good[good]
 
-    def each_behind(self):
-        """Each world in which the deed can be done, and the crowd behind."""
+    def worlds_ahead(self, good):
+        """The same as a list of worlds."""
         if self.singles is None:
             self.singles = [(world, self.behind(1 << world)) for world in crowd_of(self.need)]
-        return self.singles
+        return [world for world, behind in self.singles if within(behind, good)]
+
+    def great_ahead(self, good):
+        """The same in a great house, where the crowds behind each world are too long to be kept."""
+        chunks = chunks_of(good)
+        return [
+            world for world in crowd_of(self.need)
+            if all(is_in_chunks(chunks, there) for there in self.worlds_behind(world))
+        ]
 
 
 class Look:

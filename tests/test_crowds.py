@@ -3,7 +3,8 @@
 import random
 import unittest
 
-from sureplans.crowds import Step, crowd_of, least_world, number_of, outside, row_to, search, where, where_so, within
+from sureplans.crowds import (
+    Step, chunks_of, crowd_of, is_in_chunks, least_world, number_of, outside, row_to, search, where, where_so, within)
 from sureplans.houses import house_of, worlds_where
 from tests.samples import (
     LETTERS, YES, bare_parts, behind_by_facts, fact, random_condition, random_crowd, random_parts, random_way,
@@ -19,6 +20,18 @@ class TestCrowds(unittest.TestCase):
         self.assertEqual(crowd_of(0), ())
         self.assertEqual(number_of([]), 0)
 
+    def test_long_crowds(self):
+        crowd = (0, 5, 1023, 1024, 2047, 2048, 4095, 70000, 1 << 19, (1 << 20) - 1)
+        number = sum(1 << world for world in crowd)
+        self.assertEqual(number_of(crowd[::-1]), number)
+        self.assertEqual(crowd_of(number), crowd)
+        chunks = chunks_of(number)
+        self.assertEqual(sum(chunk << 1024 * at for at, chunk in enumerate(chunks)), number)
+        self.assertTrue(all(chunk < 1 << 1024 for chunk in chunks))
+        for world in (0, 1, 4, 5, 1022, 1023, 1024, 1025, 2048, 4095, 4096, 70000, 70001, 1 << 19, (1 << 20) - 1, 1 << 20, 1 << 30):
+            self.assertIs(is_in_chunks(chunks, world), world in crowd)
+        self.assertIs(is_in_chunks(chunks_of(0), 0), False)
+
     def test_one_crowd_and_another(self):
         self.assertEqual(least_world(number_of((5, 900))), 5)
         self.assertEqual(outside(0b1110, 0b0110), 0b1000)
@@ -28,7 +41,7 @@ class TestCrowds(unittest.TestCase):
         self.assertFalse(within(0b1110, 0b0110))
 
     def test_where_a_fact_is_so(self):
-        for many in (1, 2, 3, 10):
+        for many in (1, 2, 3, 10, 12):
             facts = list(LETTERS[:many])
             house = house_of(*bare_parts(facts))
             for name in facts:
@@ -57,6 +70,29 @@ class TestStep(unittest.TestCase):
                 crowd = chance.sample(range(1024), many)
                 behind = sorted(set().union(*[due[world] for world in crowd]))
                 self.assertEqual(list(crowd_of(step.behind(number_of(crowd)))), behind)
+
+    def test_crowds_of_great_houses(self):
+        # Houses side by side may have more facts than those that are handed in: what is behind is told in another way.
+        chance = random.Random(4)
+        for many in (12, 13, 14):
+            facts = [f"fact{letter}" for letter in "abcdefghijklmn"[:many]]
+            for _ in range(3):
+                need = ("either", fact(facts[0]), ("either", fact(facts[1]), fact(facts[-1])))
+                ways = [random_way(chance, facts) for _ in range(3)]
+                house = house_of(*with_part(bare_parts(facts), 1, [("go", need, ways)]))
+                step = Step(house, house[1][0])
+                self.assertEqual(step.is_great, many > 12)
+                able = [world for world in range(1 << many) if world & 3 or world >> many - 1]
+                self.assertEqual(list(crowd_of(step.need)), able)
+                asked = chance.sample(able, 200)
+                due = {world: {behind_by_facts(facts, way, world) for way in ways} for world in asked}
+                for crowd in (asked, asked[:3], asked[:1]):
+                    behind = sorted(set().union(*[due[world] for world in crowd]))
+                    self.assertEqual(list(crowd_of(step.behind(number_of(crowd)))), behind)
+                good = set(chance.sample(range(1 << many), 1 << many - 1)) | set().union(*[due[each] for each in asked[:50]])
+                ahead = set(crowd_of(step.good_ahead([number_of(good)])))
+                self.assertEqual({world for world in asked if world in ahead}, {each for each in asked if due[each] <= good})
+                self.assertTrue(set(asked[:50]) <= ahead <= set(able))
 
     def test_where_it_can_be_done(self):
         chance = random.Random(3)
